@@ -138,8 +138,8 @@ func TestNewHasNothing(t *testing.T) { // P50, P52: nothing is taken of the cach
 	for n := 1; n <= 4; n++ {
 		c := cache(t, nodes(0, 2), 8)
 		d := depot(t, c, n)
-		if d.Cache() != c || sight(d) != "0 0 0 0 [] []" {
-			t.Error(n, sight(d))
+		if d.Cache() != c || d.Workers() != n || sight(d) != "0 0 0 0 [] []" {
+			t.Error(n, d.Workers(), sight(d))
 		}
 		for worker := range n {
 			drain(t, d, worker, 0)
@@ -559,7 +559,7 @@ func TestNoCache(t *testing.T) { // P1: a cache, and a depot, that New did not m
 	o, e1 := d.Take(0, 0, true)
 	e2 := d.Give(0, api.Object{})
 	n, e3 := d.Drain(0)
-	if o != (api.Object{}) || n != 0 || e1 != api.ErrBound || e2 != api.ErrBound || e3 != api.ErrBound || d.Cache() != nil {
+	if o != (api.Object{}) || n != 0 || e1 != api.ErrBound || e2 != api.ErrBound || e3 != api.ErrBound || d.Cache() != nil || d.Workers() != 0 {
 		t.Error(o, n, e1, e2, e3)
 	}
 	empty(t, d, 0)

@@ -418,6 +418,29 @@ func TestNoZone(t *testing.T) { // P1: a cache without a zone, such as might be 
 	}
 }
 
+func TestHas(t *testing.T) { // the zone's nodes, whatever they have left
+	for n := 1; n <= 4; n++ {
+		_, c := start(t, nodes(0, slices.Repeat([]int{1}, n)...), 64)
+		for range 2 {
+			for node := range n {
+				if !c.Has(node) {
+					t.Error(n, node)
+				}
+			}
+			for _, node := range append([]int{-1, n, n + 1}, wild...) {
+				if c.Has(node) {
+					t.Error(n, node)
+				}
+			}
+			take(t, c, 0, "{0 0}")
+			give(t, c, api.Object{})
+		}
+	}
+	if (&slab.Cache{}).Has(0) {
+		t.Error("a node of no zone")
+	}
+}
+
 func TestAnswersAreNew(t *testing.T) { // P4: what is written into them is seen by nobody
 	z, c := start(t, nodes(0, 2, 2), 20)
 	take(t, c, 0, "{0 0}", "{0 20}", "{0 40}", "{0 64}")

@@ -17,7 +17,7 @@ func (c *Cache) Tray() *Tray { return &Tray{cache: c} }
 
 // Lay an object on top. ErrStale: it is none that is taken, or lies on a tray.
 func (t *Tray) Lay(o api.Object) error {
-	if s, _ := t.cache.find(o); s == nil || t.cache.lying[o] != nil {
+	if !t.cache.Out(o) {
 		return api.ErrStale
 	}
 	t.objects = append(t.objects, o)
@@ -37,6 +37,12 @@ func (t *Tray) Lift() (api.Object, bool) {
 
 // Count of objects.
 func (t *Tray) Count() int { return len(t.objects) }
+
+// Out tells whether somebody has an object: it is taken, and lies on no tray.
+func (c *Cache) Out(o api.Object) bool {
+	s, _ := c.find(o)
+	return s != nil && c.lying[o] == nil
+}
 
 // clear takes an object off the tray on which it lies, if there is one.
 func (c *Cache) clear(o api.Object) {

@@ -98,3 +98,39 @@ func TestGiveOffATray(t *testing.T) { // an object that is given back is free, a
 	lift(t, a, "{0 48}", "{0 16}")
 	lift(t, b, "{0 32}")
 }
+
+func TestOut(t *testing.T) { // neither what is free, nor what lies on a tray, nor what is no object
+	z, c := start(t, nodes(0, 2), 25)
+	out := func(l ...api.Object) {
+		t.Helper()
+		before := sight(t, z, c)
+		for node := -1; node <= 1; node++ {
+			for at := -64; at <= 192; at++ {
+				if o := (api.Object{Node: node, At: at}); c.Out(o) != slices.Contains(l, o) {
+					t.Fatal(o, c.Out(o))
+				}
+			}
+			for _, at := range wild {
+				if c.Out(api.Object{Node: node, At: at}) || c.Out(api.Object{Node: at}) {
+					t.Fatal(node, at)
+				}
+			}
+		}
+		if sight(t, z, c) != before {
+			t.Fatal(sight(t, z, c))
+		}
+	}
+	out()
+	take(t, c, 0, "{0 0}", "{0 25}", "{0 64}")
+	out(api.Object{}, api.Object{At: 25}, api.Object{At: 64})
+	y := c.Tray()
+	lay(t, y, api.Object{At: 64}, api.Object{})
+	out(api.Object{At: 25})
+	give(t, c, api.Object{At: 64}, api.Object{At: 25})
+	out()
+	lift(t, y, "{0 0}")
+	out(api.Object{})
+	if (&slab.Cache{}).Out(api.Object{}) {
+		t.Error("an object of no cache")
+	}
+}

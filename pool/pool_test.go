@@ -354,6 +354,14 @@ func TestNewOfNoNode(t *testing.T) { // P60: the node is the depot's to look at:
 	take(t, p, 0, 2)
 }
 
+func TestWorkers(t *testing.T) { // they are those of the depot
+	for n := 1; n <= 4; n++ {
+		if p := makePool(t, few(t, 1, n), 0, 1); p.Workers() != n {
+			t.Error(n, p.Workers())
+		}
+	}
+}
+
 func TestTakeOfTheDepot(t *testing.T) { // P61: it is the depot's Take, of this worker, at this node, ahead of the reserve
 	d := depot(t, nodes(0, 4, 2), 64, 3)
 	p := makePool(t, d, 0, 2)
@@ -752,8 +760,8 @@ func TestClose(t *testing.T) { // P62: the reserve lies in worker 0's magazines,
 	}
 	waiting(t, p)
 	reserve(t, p, 0)
-	if sight(d, p) != before {
-		t.Error(sight(d, p))
+	if sight(d, p) != before || p.Workers() != 0 {
+		t.Error(p.Workers(), sight(d, p))
 	}
 	depotTake(t, d, 0, 4, 1, 0)
 	depotTake(t, d, 1, 3, 2)

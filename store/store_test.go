@@ -498,6 +498,9 @@ func TestDropWhereSomebodyWaits(t *testing.T) { // P70: who waits at the pool ge
 func TestDropErrors(t *testing.T) { // P70: ErrBound: worker, also where others hold the block still; nothing is changed
 	for workers := 1; workers <= 4; workers++ {
 		x := build(t, plan{[]int{2}, 0, 64, workers, 1}, 4)
+		if n := x.s.Workers(); n != workers {
+			t.Fatal(n, workers)
+		}
 		x.take(t, 1, 2)
 		x.hold(t, 2)
 		before := x.sight()
@@ -861,8 +864,8 @@ func TestStoresThatNobodyMade(t *testing.T) { // P1: a pool that New did not mak
 		if id != 0 || own != 0 || b != "" || n != 0 || slices.ContainsFunc(l, func(err error) bool { return err != api.ErrNone }) {
 			t.Error(id, own, b, n, l)
 		}
-		if s.Count() != 0 || len(s.IDs()) != 0 {
-			t.Error(s.IDs())
+		if s.Count() != 0 || len(s.IDs()) != 0 || s.Workers() != 0 {
+			t.Error(s.IDs(), s.Workers())
 		}
 	}
 }

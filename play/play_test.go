@@ -743,6 +743,107 @@ func TestGivenBackPast(t *testing.T) { // P101: the house's ErrStale, where some
 	r.held(1, 2, 0)
 }
 
+func TestTakeOfAny(t *testing.T) { // P120: of depot 1, by any worker, at any node: loose as what a step took
+	r := bare(t, 4, 4, 4)
+	for i, x := range []struct {
+		worker, node int
+		want         api.Object
+	}{
+		{0, 1, api.Object{Node: 1}}, {1, 1, api.Object{Node: 1, At: 64}}, {1, 0, api.Object{At: 64}}, {0, 2, api.Object{Node: 2}},
+	} {
+		if o, err := r.p.Take(x.worker, x.node); o != x.want || err != nil {
+			t.Fatal(i, o, err)
+		}
+	}
+	r.steps(takes, 0)
+	r.loose(1, 0, 1, 64, 0, 64, 2, 0, 0, 128)
+	r.taken(0, 0, 0, 0, 16)
+	r.step(gives, 6, 0) // {1 64}, by worker 0: to whom it is at hand
+	if o, err := r.p.Take(0, 2); o != (api.Object{Node: 1, At: 64}) || err != nil {
+		t.Error(o, err)
+	}
+	r.loose(1, 0, 0, 64, 2, 0, 0, 128, 1, 64)
+	first := r.sight()
+	for _, who := range [][2]int{{2, 0}, {-1, 0}, {0, 3}, {1, -1}, {math.MinInt, math.MaxInt}, {math.MaxInt, 0}} {
+		if o, err := r.p.Take(who[0], who[1]); o != (api.Object{}) || err != api.ErrBound || r.sight() != first {
+			t.Error(who, o, err)
+		}
+	}
+	r.sound()
+}
+
+func TestTakeOfAnyInVain(t *testing.T) { // P120: the house's: the last page is had, then nothing, and nothing more is loose
+	r := start(t, nodes(1, 1, 2, 3))
+	for _, want := range []int{0, 64} {
+		if o, err := r.p.Take(1, 0); o != (api.Object{At: want}) || err != nil {
+			t.Error(o, err)
+		}
+	}
+	if o, err := r.p.Take(0, 0); o != (api.Object{}) || err != api.ErrFull {
+		t.Error(o, err)
+	}
+	r.loose(0, 0, 0, 64)
+}
+
+func TestGiveOfAny(t *testing.T) { // P120: by this worker: not loose any more, the others in their order; what is refused stays
+	r := bare(t, 8)
+	r.steps(takes, 0, 0, 0)
+	if err := r.p.Give(1, api.Object{At: 128}); err != nil {
+		t.Fatal(err)
+	}
+	r.loose(0, 64, 0, 192)
+	first := r.sight()
+	for _, x := range []struct {
+		worker int
+		o      api.Object
+		want   error
+	}{
+		{1, api.Object{At: 128}, api.ErrStale}, {0, api.Object{}, api.ErrStale}, {0, api.Object{Node: 1, At: 64}, api.ErrStale},
+		{0, api.Object{Node: math.MinInt, At: math.MaxInt}, api.ErrStale}, {2, api.Object{At: 64}, api.ErrBound}, {-1, api.Object{At: 64}, api.ErrBound},
+	} {
+		if err := r.p.Give(x.worker, x.o); err != x.want || r.sight() != first {
+			t.Error(x, err)
+		}
+	}
+	r.step(takes, 1, 0)
+	r.loose(0, 64, 0, 192, 0, 128)
+	for i, at := range []int{64, 128, 192} {
+		if err := r.p.Give(0, api.Object{At: at}); err != nil {
+			t.Error(i, err)
+		}
+	}
+	r.loose()
+	r.step(gives, 0, 4)
+	r.lies(1, 0, 3)
+	r.sound()
+}
+
+func TestGiveOfAnyAsksBack(t *testing.T) { // P120: the house's: where the object's node is Low
+	r := start(t, nodes(0, 2, 2, 4))
+	r.steps(takes, 0, 0, 0)
+	if err := r.p.Give(0, api.Object{At: 128}); err != nil {
+		t.Error(err)
+	}
+	r.held(1, 0, 0)
+	r.free(1)
+}
+
+func TestGivenBackPastAndTakenAgain(t *testing.T) { // P120: whatever somebody gave back past the play, and was taken again then
+	r := bare(t, 8)
+	r.steps(takes, 0)
+	if err := r.p.House().Give(1, 0, api.Object{At: 64}); err != nil {
+		t.Fatal(err)
+	}
+	if o, err := r.p.Take(0, 0); o != (api.Object{At: 64}) || err != nil {
+		t.Fatal(o, err)
+	}
+	r.loose(0, 64, 0, 64)
+	if err := r.p.Give(0, api.Object{At: 64}); err != nil {
+		t.Error(err)
+	}
+	r.loose()
+}
+
 func TestReclaim(t *testing.T) { // P101: of this node; however many came, 0
 	c := nodes(0, 0, 5, 4, 4, 4)
 	for q := range 7 {
